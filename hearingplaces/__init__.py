@@ -1,0 +1,1 @@
+"""A room's acoustics: where in a room one is heard."""

@@ -1,0 +1,43 @@
+"""Rooms that several tests use, and a list that tells if anybody changes it."""
+
+
+def make_room(h, corners, floor=0, ceiling=0, stuff=0):
+    """A room's list from its height and its corners in plan."""
+    row = [h, floor, ceiling]
+    for x, y in corners:
+        row += [x, y, stuff]
+    return row
+
+
+BOX = make_room(10, [(0, 0), (8, 0), (8, 8), (0, 8)])
+
+# Two arms, along x and along y; corner 3 at (4, 4) juts into the room.
+ELL = make_room(10, [(0, 0), (8, 0), (8, 4), (4, 4), (4, 8), (0, 8)])
+
+OCTAGON = make_room(10, [(3, 0), (6, 0), (9, 3), (9, 6), (6, 9), (3, 9), (0, 6), (0, 3)])
+
+# A box with a wedge cut in from above, its point at (6, 4).
+WEDGE = make_room(10, [(0, 0), (12, 0), (12, 10), (6, 4), (0, 10)])
+
+
+def comb_corners():
+    """64 corners: sixteen teeth, two wide and two apart, standing on a ground two deep."""
+    corners = [(0, 0), (62, 0)]
+    for k in range(15, -1, -1):
+        corners += [(4 * k + 2, 10), (4 * k, 10)]
+        if k > 0:
+            corners += [(4 * k, 2), (4 * k - 2, 2)]
+    return corners
+
+
+COMB = make_room(10, comb_corners())
+
+
+class Watched(list):
+    """A list that refuses every change, one that is taken back as well."""
+
+    def refuse(self, *args, **kwargs):
+        raise AssertionError("what was handed in is being changed")
+
+    __setitem__ = __delitem__ = __iadd__ = __imul__ = refuse
+    append = extend = insert = pop = remove = clear = sort = reverse = refuse
