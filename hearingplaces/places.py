@@ -1,8 +1,10 @@
 """The calls: what is told of the places of a grid."""
 
+from hearingplaces.paths import paths_to, rows_of_walls, walls_of, whole_point
 from hearingplaces.rooms import is_clear, is_inside, lines_of, room_fault
 
 MOST_PLACES_A_SIDE = 16
+MOST_TURNS = 4
 
 
 def is_grid_right(nx, ny):
@@ -15,20 +17,45 @@ def grid_places(x, y, z, dx, dy, nx, ny):
     return [(x + k % nx * dx, y + k // nx * dy, z) for k in range(nx * ny)]
 
 
-def heard(sx, sy, sz, x, y, z, dx, dy, nx, ny, room):
-    """0 and the numbers of the grid's places that are heard straight from s, rising; or a refusal."""
+def refusal(s, is_right, room):
+    """A call's refusal, or None; is_right: whether its plain numbers are within their bounds."""
     fault = room_fault(room)
     if fault is not None:
         return [-5, fault[0], fault[1]]
-    if not is_grid_right(nx, ny):
+    if not is_right:
         return [-1]
-    height = room[0]
-    lines = lines_of(room)
-    s = (sx, sy, sz)
-    if not is_inside(s, height, lines):
+    if not is_inside(s, room[0], lines_of(room)):
         return [-3]
+    return None
+
+
+def paths_over(s, places, most, room):
+    """Of each place its paths from s with at most most turns, None if it isn't inside."""
+    lines = lines_of(room)
+    walls = walls_of(room)
+    rows = rows_of_walls(whole_point(s), walls, most)
+    return [paths_to(place, rows, walls) if is_inside(place, room[0], lines) else None for place in places]
+
+
+def heard(sx, sy, sz, x, y, z, dx, dy, nx, ny, room):
+    """0 and the numbers of the grid's places that are heard straight from s, rising; or a refusal."""
+    s = (sx, sy, sz)
+    refused = refusal(s, is_grid_right(nx, ny), room)
+    if refused is not None:
+        return refused
+    lines = lines_of(room)
     answer = [0]
     for number, place in enumerate(grid_places(x, y, z, dx, dy, nx, ny)):
-        if is_inside(place, height, lines) and is_clear(s, place, lines):
+        if is_inside(place, room[0], lines) and is_clear(s, place, lines):
             answer.append(number)
     return answer
+
+
+def ways(sx, sy, sz, x, y, z, dx, dy, nx, ny, most, room):
+    """0 and of each of the grid's places how many paths lead there from s, -1 if it isn't inside; or a refusal."""
+    s = (sx, sy, sz)
+    refused = refusal(s, is_grid_right(nx, ny) and most <= MOST_TURNS, room)
+    if refused is not None:
+        return refused
+    places = grid_places(x, y, z, dx, dy, nx, ny)
+    return [0] + [-1 if paths is None else len(paths) for paths in paths_over(s, places, most, room)]

@@ -1,9 +1,12 @@
-"""heard once more, slowly and from the words of the document, to compare the program with.
+"""heard, ways and level once more, slowly and from the words of the document, to compare the program with.
 
 Nothing here is drawn from the program, and the ways of finding out differ from the program's: lines are cut by
-fractions, a way is looked at piece by piece between its cuts.
+fractions, a way is looked at piece by piece between its cuts; a path is followed forward from s toward e mirrored
+back, and is then held to each word of what a path is; of a gain and a level each possible number is tried.
 """
 
+import itertools
+from decimal import ROUND_FLOOR, Context, Decimal
 from fractions import Fraction
 
 
@@ -108,19 +111,156 @@ def fault(room):
     return None if is_left(lines) else (7, 0)
 
 
-def heard(sx, sy, sz, x, y, z, dx, dy, nx, ny, room):
+def refusal(s, sides, room, book=None, most=0, band=0):
     broken = fault(room)
     if broken is not None:
         return [-5, broken[0], broken[1]]
-    if nx not in range(1, 17) or ny not in range(1, 17):
+    if book is not None and len(book) != 36:
+        return [-6, len(book)]
+    if book is not None and max(book) > 32768:
+        return [-6, [part > 32768 for part in book].index(True)]
+    if any(side not in range(1, 17) for side in sides) or most not in range(5) or band not in range(4):
         return [-1]
+    return None if inside(s, room) else [-3]
+
+
+def grid(x, y, z, dx, dy, nx, ny):
+    return [(x + i * dx, y + j * dy, z) for j in range(ny) for i in range(nx)]
+
+
+def heard(sx, sy, sz, x, y, z, dx, dy, nx, ny, room):
     s = (sx, sy, sz)
-    if not inside(s, room):
-        return [-3]
+    refused = refusal(s, (nx, ny), room)
+    if refused is not None:
+        return refused
+    places = grid(x, y, z, dx, dy, nx, ny)
+    return [0] + [k for k, e in enumerate(places) if inside(e, room) and clear(s, e, room)]
+
+
+def mirror(p, wall, room):
+    """A point mirrored in a wall, by its foot on the wall's plane."""
+    lines = corners_and_lines(room)[1]
+    if wall == len(lines):
+        return p[0], p[1], -p[2]
+    if wall == len(lines) + 1:
+        return p[0], p[1], 2 * room[0] - p[2]
+    a, b = lines[wall]
+    ux, uy = b[0] - a[0], b[1] - a[1]
+    t = Fraction((p[0] - a[0]) * ux + (p[1] - a[1]) * uy, ux * ux + uy * uy)
+    return 2 * (a[0] + t * ux) - p[0], 2 * (a[1] + t * uy) - p[1], p[2]
+
+
+def in_open_wall(p, wall, room):
+    lines = corners_and_lines(room)[1]
+    if wall >= len(lines):
+        return p[2] == (0 if wall == len(lines) else room[0]) and inside((p[0], p[1], Fraction(room[0], 2)), room)
+    return 0 < p[2] < room[0] and on_line(p, *lines[wall]) and tuple(p[:2]) not in lines[wall]
+
+
+def meet_plane(p, q, wall, room):
+    """The one point that the endless line through p and q has in a wall's plane, or None."""
+    lines = corners_and_lines(room)[1]
+    if wall >= len(lines):
+        height, slope = (0 if wall == len(lines) else room[0]) - p[2], q[2] - p[2]
+    else:
+        (ax, ay), (bx, by) = lines[wall]
+        height = (ax - p[0]) * (by - ay) - (ay - p[1]) * (bx - ax)
+        slope = (q[0] - p[0]) * (by - ay) - (q[1] - p[1]) * (bx - ax)
+    if slope == 0:
+        return None
+    t = Fraction(height) / slope
+    return tuple(f + t * (g - f) for f, g in zip(p, q))
+
+
+def strictly_between(p, q, r):
+    """Whether q lies on the straight line from p to r, and is neither."""
+    if p == r:
+        return False
+    axis = next(k for k in range(3) if p[k] != r[k])
+    t = Fraction(q[axis] - p[axis]) / (r[axis] - p[axis])
+    return 0 < t < 1 and all(q[k] == p[k] + t * (r[k] - p[k]) for k in range(3))
+
+
+def is_path(s, e, row, room):
+    """Whether the walls of a row, one after another, make a path."""
+    aim = e
+    for wall in reversed(row):
+        aim = mirror(aim, wall, room)
+    points = [s]
+    for wall in row:
+        turn = meet_plane(points[-1], aim, wall, room)
+        if turn is None or not in_open_wall(turn, wall, room):
+            return False
+        points.append(turn)
+        aim = mirror(aim, wall, room)
+    points.append(e)
+    for k, wall in enumerate(row):
+        if not strictly_between(mirror(points[k], wall, room), points[k + 1], points[k + 2]):
+            return False
+    return all(clear(p, q, room) for p, q in zip(points, points[1:]))
+
+
+def paths(s, e, most, room):
+    """The rows of walls of all paths with at most most turns."""
+    walls = range(len(room) // 3 + 1)
+    return [row for turns in range(most + 1) for row in itertools.product(walls, repeat=turns)
+            if is_path(s, e, row, room)]
+
+
+def ways(sx, sy, sz, x, y, z, dx, dy, nx, ny, most, room):
+    s = (sx, sy, sz)
+    refused = refusal(s, (nx, ny), room, None, most)
+    if refused is not None:
+        return refused
+    places = grid(x, y, z, dx, dy, nx, ny)
+    return [0] + [len(paths(s, e, most, room)) if inside(e, room) else -1 for e in places]
+
+
+def square_length(s, e, row, room):
+    for wall in row:
+        s = mirror(s, wall, room)
+    square = sum((f - g) ** 2 for f, g in zip(s, e))
+    if square != int(square):
+        raise AssertionError("the square of a length is not whole")
+    return int(square)
+
+
+def gain(stuffs, square, band, book):
+    """Halved again and again, the bounds close round the greatest g that is at most 1/2 above 2^32 P / L."""
+    square = max(square, 1)
+    steps = max(m for m in range(100) if (1024 * m) ** 2 <= square)
+    part = Fraction(book[32 + band], 32768) ** steps
+    for stuff in stuffs:
+        part *= Fraction(book[4 * stuff + band], 32768)
+    wanted = (2 ** 32 * part) ** 2 / square
+    low, high = 0, 2 ** 33
+    while high - low > 1:
+        middle = (low + high) // 2
+        if (middle - Fraction(1, 2)) ** 2 <= wanted:
+            low = middle
+        else:
+            high = middle
+    return low
+
+
+def level_of(energy):
+    if energy == 0:
+        return -100000
+    exact = Context(prec=80)
+    number = exact.multiply(exact.log10(exact.divide(Decimal(energy), Decimal(2 ** 48))), Decimal(10))
+    return int(number.to_integral_value(rounding=ROUND_FLOOR))
+
+
+def level(sx, sy, sz, x, y, z, dx, dy, nx, ny, most, band, room, book):
+    s = (sx, sy, sz)
+    refused = refusal(s, (nx, ny), room, book, most, band)
+    if refused is not None:
+        return refused
+    stuffs = room[5::3] + room[1:3]
     answer = [0]
-    for j in range(ny):
-        for i in range(nx):
-            place = (x + i * dx, y + j * dy, z)
-            if inside(place, room) and clear(s, place, room):
-                answer.append(i + nx * j)
+    for e in grid(x, y, z, dx, dy, nx, ny):
+        energy = 0
+        for row in paths(s, e, most, room) if inside(e, room) else []:
+            energy += gain([stuffs[wall] for wall in row], square_length(s, e, row, room), band, book) ** 2
+        answer.append(level_of(energy))
     return answer

@@ -19,6 +19,11 @@ OCTAGON = make_room(10, [(3, 0), (6, 0), (9, 3), (9, 6), (6, 9), (3, 9), (0, 6),
 # A box with a wedge cut in from above, its point at (6, 4).
 WEDGE = make_room(10, [(0, 0), (12, 0), (12, 10), (6, 4), (0, 10)])
 
+# A stump, its top from (3, 3) to (5, 3), stands in a box at y = 0.
+STUMP = make_room(10, [(0, 0), (3, 0), (3, 3), (5, 3), (5, 0), (8, 0), (8, 8), (0, 8)])
+
+TRIANGLE = make_room(10, [(0, 0), (8, 0), (0, 8)])
+
 
 def comb_corners():
     """64 corners: sixteen teeth, two wide and two apart, standing on a ground two deep."""

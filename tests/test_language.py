@@ -23,6 +23,15 @@ METHODS = set("""
 WORDS = re.compile(r"\b(type|typing|typing_extensions|enum|Enum|IntEnum|StrEnum|Flag|IntFlag|Generic|Protocol|ABC|ABCMeta"
                    r"|namedtuple|NamedTuple|TypedDict|TYPE_CHECKING|abstractmethod)\b|dataclass|overload|contextmanager")
 
+NOT_NAMES = set("""
+    register mro elements open input version_info with_traceback add_note attrgetter breakpoint builtins compile
+    copyright credits delattr dir eval exec exit gc getattr globals hasattr help id importlib license locals
+    methodcaller os quit setattr super type vars sys chr
+""".split())
+
+WALKED = set("zip enumerate reversed range".split())
+WALKERS = set("list tuple dict sorted sum any all enumerate zip min max".split())
+
 NODES = (
     ast.Module, ast.Expr, ast.ImportFrom, ast.alias, ast.FunctionDef, ast.arguments, ast.arg, ast.Assign, ast.AugAssign,
     ast.If, ast.While, ast.For, ast.Return, ast.Break, ast.Continue, ast.Pass, ast.Name, ast.Constant, ast.List,
@@ -99,6 +108,45 @@ class Language(unittest.TestCase):
             for name in bound:
                 self.assertRegex(name, r"^[A-Za-z][A-Za-z0-9_]*$", where)
                 self.assertFalse(hasattr(builtins, name), where)
+
+    def test_names_that_are_not_used(self):
+        for where, node in self.nodes():
+            if isinstance(node, ast.Name):
+                self.assertNotIn(node.id, NOT_NAMES, where)
+            if isinstance(node, (ast.FunctionDef, ast.alias)):
+                self.assertNotIn(node.name, NOT_NAMES, where)
+            if isinstance(node, ast.arg):
+                self.assertNotIn(node.arg, NOT_NAMES, where)
+
+    def test_no_local_is_called_like_an_import(self):
+        for path in files():
+            tree = ast.parse(path.read_text(encoding="utf-8"))
+            drawn = {alias.name for node in tree.body if isinstance(node, ast.ImportFrom) for alias in node.names}
+            for node in ast.walk(tree):
+                name = node.arg if isinstance(node, ast.arg) else None
+                if isinstance(node, ast.Name) and isinstance(node.ctx, ast.Store):
+                    name = node.id
+                self.assertNotIn(name, drawn, path)
+
+    def test_exponents_are_written(self):
+        for where, node in self.nodes():
+            if isinstance(node, (ast.BinOp, ast.AugAssign)) and isinstance(node.op, ast.Pow):
+                exponent = node.right if isinstance(node, ast.BinOp) else node.value
+                self.assertIsInstance(exponent, ast.Constant, where)
+                self.assertIn(exponent.value, range(65), where)
+
+    def test_walks_are_walked_on_the_spot(self):
+        for path in files():
+            tree = ast.parse(path.read_text(encoding="utf-8"))
+            right = set()
+            for node in ast.walk(tree):
+                if isinstance(node, (ast.For, ast.comprehension)):
+                    right.add(node.iter)
+                if isinstance(node, ast.Call) and isinstance(node.func, ast.Name) and node.func.id in WALKERS:
+                    right.update(node.args[:1])
+            for node in ast.walk(tree):
+                if isinstance(node, ast.Call) and isinstance(node.func, ast.Name) and node.func.id in WALKED:
+                    self.assertIn(node, right, f"{path.name}:{node.lineno}")
 
     def test_top_of_each_file(self):
         for path in files():
