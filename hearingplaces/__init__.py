@@ -1,1 +1,1 @@
-"""A room's acoustics: where in a room one is heard, and by how many ways."""
+"""A room's acoustics: where in a room one is heard, by how many ways and how loud."""

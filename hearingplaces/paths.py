@@ -6,7 +6,7 @@ above 0 on the side on which the wall has the room. A wall is a tuple of its pla
 ceiling have None as their line.
 """
 
-from hearingplaces.rooms import lines_meet, lines_of
+from hearingplaces.rooms import HEAD, lines_meet, lines_of
 
 
 def whole_point(p):
@@ -33,6 +33,11 @@ def walls_of(room):
     """A room's walls in the order of their numbers, the floor and the ceiling last."""
     sides = [(plane_of_line(line), line) for line in lines_of(room)]
     return sides + [((0, 0, 1, 0), None), ((0, 0, -1, room[0]), None)]
+
+
+def stuffs_of(room):
+    """The stuffs of a room's walls in the order of their numbers."""
+    return [room[k] for k in range(HEAD + 2, len(room), 3)] + [room[1], room[2]]
 
 
 def depth(plane, p):

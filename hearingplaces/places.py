@@ -1,10 +1,12 @@
 """The calls: what is told of the places of a grid."""
 
-from hearingplaces.paths import paths_to, rows_of_walls, walls_of, whole_point
+from hearingplaces.books import NO_LEVEL, book_fault, gain, level_of
+from hearingplaces.paths import paths_to, rows_of_walls, stuffs_of, walls_of, whole_point
 from hearingplaces.rooms import is_clear, is_inside, lines_of, room_fault
 
 MOST_PLACES_A_SIDE = 16
 MOST_TURNS = 4
+LARGEST_BAND = 3
 
 
 def is_grid_right(nx, ny):
@@ -17,11 +19,15 @@ def grid_places(x, y, z, dx, dy, nx, ny):
     return [(x + k % nx * dx, y + k // nx * dy, z) for k in range(nx * ny)]
 
 
-def refusal(s, is_right, room):
-    """A call's refusal, or None; is_right: whether its plain numbers are within their bounds."""
+def refusal(s, is_right, room, book):
+    """A call's refusal, or None; is_right: whether its plain numbers are within their bounds; book: None without."""
     fault = room_fault(room)
     if fault is not None:
         return [-5, fault[0], fault[1]]
+    if book is not None:
+        wrong = book_fault(book)
+        if wrong is not None:
+            return [-6, wrong]
     if not is_right:
         return [-1]
     if not is_inside(s, room[0], lines_of(room)):
@@ -37,10 +43,18 @@ def paths_over(s, places, most, room):
     return [paths_to(place, rows, walls) if is_inside(place, room[0], lines) else None for place in places]
 
 
+def energy_of(paths, band, stuffs, book):
+    """The energy that paths bring in a band."""
+    energy = 0
+    for row, square in paths:
+        energy += gain([stuffs[wall] for wall in row], square, band, book) ** 2
+    return energy
+
+
 def heard(sx, sy, sz, x, y, z, dx, dy, nx, ny, room):
     """0 and the numbers of the grid's places that are heard straight from s, rising; or a refusal."""
     s = (sx, sy, sz)
-    refused = refusal(s, is_grid_right(nx, ny), room)
+    refused = refusal(s, is_grid_right(nx, ny), room, None)
     if refused is not None:
         return refused
     lines = lines_of(room)
@@ -54,8 +68,22 @@ def heard(sx, sy, sz, x, y, z, dx, dy, nx, ny, room):
 def ways(sx, sy, sz, x, y, z, dx, dy, nx, ny, most, room):
     """0 and of each of the grid's places how many paths lead there from s, -1 if it isn't inside; or a refusal."""
     s = (sx, sy, sz)
-    refused = refusal(s, is_grid_right(nx, ny) and most <= MOST_TURNS, room)
+    refused = refusal(s, is_grid_right(nx, ny) and most <= MOST_TURNS, room, None)
     if refused is not None:
         return refused
     places = grid_places(x, y, z, dx, dy, nx, ny)
     return [0] + [-1 if paths is None else len(paths) for paths in paths_over(s, places, most, room)]
+
+
+def level(sx, sy, sz, x, y, z, dx, dy, nx, ny, most, band, room, book):
+    """0 and of each of the grid's places its level in a band, NO_LEVEL if it isn't inside; or a refusal."""
+    s = (sx, sy, sz)
+    is_right = is_grid_right(nx, ny) and most <= MOST_TURNS and band <= LARGEST_BAND
+    refused = refusal(s, is_right, room, book)
+    if refused is not None:
+        return refused
+    stuffs = stuffs_of(room)
+    answer = [0]
+    for paths in paths_over(s, grid_places(x, y, z, dx, dy, nx, ny), most, room):
+        answer.append(NO_LEVEL if paths is None else level_of(energy_of(paths, band, stuffs, book)))
+    return answer
