@@ -1,4 +1,4 @@
-"""The calls: what is told of the places of a grid."""
+"""The calls: what is told of the places of a grid, and of rows of points."""
 
 from hearingplaces.books import NO_LEVEL, book_fault, gain, level_of
 from hearingplaces.paths import paths_to, rows_of_walls, stuffs_of, walls_of, whole_point
@@ -7,6 +7,8 @@ from hearingplaces.rooms import is_clear, is_inside, lines_of, room_fault
 MOST_PLACES_A_SIDE = 16
 MOST_TURNS = 4
 LARGEST_BAND = 3
+MOST_PLACES = 8
+MOST_EARS = 8
 
 
 def is_grid_right(nx, ny):
@@ -19,8 +21,18 @@ def grid_places(x, y, z, dx, dy, nx, ny):
     return [(x + k % nx * dx, y + k // nx * dy, z) for k in range(nx * ny)]
 
 
+def are_points_right(row, least, largest):
+    """Whether a row has three numbers a point, of as many points as may be."""
+    return len(row) % 3 == 0 and least <= len(row) // 3 <= largest
+
+
+def points_of(row):
+    """A row's points in the order of their numbers."""
+    return [(row[k], row[k + 1], row[k + 2]) for k in range(0, len(row), 3)]
+
+
 def refusal(s, is_right, room, book):
-    """A call's refusal, or None; is_right: whether its plain numbers are within their bounds; book: None without."""
+    """A call's refusal, or None; is_right: whether all else is within its bounds; s and book are None without."""
     fault = room_fault(room)
     if fault is not None:
         return [-5, fault[0], fault[1]]
@@ -30,7 +42,7 @@ def refusal(s, is_right, room, book):
             return [-6, wrong]
     if not is_right:
         return [-1]
-    if not is_inside(s, room[0], lines_of(room)):
+    if s is not None and not is_inside(s, room[0], lines_of(room)):
         return [-3]
     return None
 
@@ -49,6 +61,14 @@ def energy_of(paths, band, stuffs, book):
     for row, square in paths:
         energy += gain([stuffs[wall] for wall in row], square, band, book) ** 2
     return energy
+
+
+def energies_over(s, places, most, band, room, book):
+    """Of each place its energy from s, 0 where one of the two isn't inside."""
+    if not is_inside(s, room[0], lines_of(room)):
+        return [0] * len(places)
+    stuffs = stuffs_of(room)
+    return [0 if paths is None else energy_of(paths, band, stuffs, book) for paths in paths_over(s, places, most, room)]
 
 
 def heard(sx, sy, sz, x, y, z, dx, dy, nx, ny, room):
@@ -87,3 +107,18 @@ def level(sx, sy, sz, x, y, z, dx, dy, nx, ny, most, band, room, book):
     for paths in paths_over(s, grid_places(x, y, z, dx, dy, nx, ny), most, room):
         answer.append(NO_LEVEL if paths is None else level_of(energy_of(paths, band, stuffs, book)))
     return answer
+
+
+def best(most, band, room, book, places, ears):
+    """0, the first place whose worst energy is the greatest, its worst ear and that energy; or a refusal."""
+    are_rows_right = are_points_right(places, 1, MOST_PLACES) and are_points_right(ears, 1, MOST_EARS)
+    refused = refusal(None, are_rows_right and most <= MOST_TURNS and band <= LARGEST_BAND, room, book)
+    if refused is not None:
+        return refused
+    told = None
+    for number, place in enumerate(points_of(places)):
+        energies = energies_over(place, points_of(ears), most, band, room, book)
+        worst = min(energies)
+        if told is None or worst > told[3]:
+            told = [0, number, energies.index(worst), worst]
+    return told

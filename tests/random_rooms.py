@@ -1,4 +1,4 @@
-"""Rooms and points by chance, made from the chance that is handed in."""
+"""Rooms, points and books by chance, made from the chance that is handed in."""
 
 import reference
 from rooms_for_tests import make_room
@@ -66,3 +66,16 @@ def random_point_inside(chance, room):
         point = (chance.randrange(1, 20), chance.randrange(1, 20), chance.randrange(1, room[0]))
         if reference.inside(point, room):
             return point
+
+
+def stuffed(chance, room):
+    """The room with stuffs by chance."""
+    changed = list(room)
+    for k in [1, 2] + list(range(5, len(room), 3)):
+        changed[k] = chance.randrange(8)
+    return changed
+
+
+def random_book(chance):
+    """A book in which the least and the largest parts are frequent."""
+    return [chance.choice((0, 1, 2, 32767, 32768, chance.randrange(32769), chance.randrange(32769))) for _ in range(36)]

@@ -1,4 +1,4 @@
-"""heard, ways and level once more, slowly and from the words of the document, to compare the program with.
+"""heard, ways, level and best once more, slowly and from the words of the document, to compare the program with.
 
 Nothing here is drawn from the program, and the ways of finding out differ from the program's: lines are cut by
 fractions, a way is looked at piece by piece between its cuts; a path is followed forward from s toward e mirrored
@@ -111,7 +111,8 @@ def fault(room):
     return None if is_left(lines) else (7, 0)
 
 
-def refusal(s, sides, room, book=None, most=0, band=0):
+def refusal(s, sides, room, book=None, most=0, band=0, rows=()):
+    """rows: of each row of points its numbers, and the least and the most points that it may have."""
     broken = fault(room)
     if broken is not None:
         return [-5, broken[0], broken[1]]
@@ -121,7 +122,9 @@ def refusal(s, sides, room, book=None, most=0, band=0):
         return [-6, [part > 32768 for part in book].index(True)]
     if any(side not in range(1, 17) for side in sides) or most not in range(5) or band not in range(4):
         return [-1]
-    return None if inside(s, room) else [-3]
+    if any(len(row) not in range(3 * least, 3 * largest + 1, 3) for row, least, largest in rows):
+        return [-1]
+    return None if s is None or inside(s, room) else [-3]
 
 
 def grid(x, y, z, dx, dy, nx, ny):
@@ -251,16 +254,36 @@ def level_of(energy):
     return int(number.to_integral_value(rounding=ROUND_FLOOR))
 
 
+def energy(s, e, most, band, room, book):
+    """0 where one of the two points isn't inside."""
+    if not (inside(s, room) and inside(e, room)):
+        return 0
+    stuffs = room[5::3] + room[1:3]
+    gains = [gain([stuffs[wall] for wall in row], square_length(s, e, row, room), band, book)
+             for row in paths(s, e, most, room)]
+    return sum(g ** 2 for g in gains)
+
+
 def level(sx, sy, sz, x, y, z, dx, dy, nx, ny, most, band, room, book):
     s = (sx, sy, sz)
     refused = refusal(s, (nx, ny), room, book, most, band)
     if refused is not None:
         return refused
-    stuffs = room[5::3] + room[1:3]
-    answer = [0]
-    for e in grid(x, y, z, dx, dy, nx, ny):
-        energy = 0
-        for row in paths(s, e, most, room) if inside(e, room) else []:
-            energy += gain([stuffs[wall] for wall in row], square_length(s, e, row, room), band, book) ** 2
-        answer.append(level_of(energy))
-    return answer
+    return [0] + [level_of(energy(s, e, most, band, room, book)) for e in grid(x, y, z, dx, dy, nx, ny)]
+
+
+def points(row):
+    return list(zip(row[::3], row[1::3], row[2::3]))
+
+
+def best(most, band, room, book, places, ears):
+    """Sorted by energy, then by number, the first ear of a place is its worst; of these the greatest is told."""
+    refused = refusal(None, (), room, book, most, band, ((places, 1, 8), (ears, 1, 8)))
+    if refused is not None:
+        return refused
+    found = []
+    for number, place in enumerate(points(places)):
+        pairs = sorted((energy(place, ear, most, band, room, book), k) for k, ear in enumerate(points(ears)))
+        found.append((-pairs[0][0], number, pairs[0][1]))
+    least, number, ear = sorted(found)[0]
+    return [0, number, ear, -least]

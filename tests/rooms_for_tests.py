@@ -1,4 +1,4 @@
-"""Rooms that several tests use, and a list that tells if anybody changes it."""
+"""Rooms that several tests use, rows of points, and a list that tells if anybody changes it."""
 
 
 def make_room(h, corners, floor=0, ceiling=0, stuff=0):
@@ -7,6 +7,11 @@ def make_room(h, corners, floor=0, ceiling=0, stuff=0):
     for x, y in corners:
         row += [x, y, stuff]
     return row
+
+
+def flat(points):
+    """A row of points as the program takes it."""
+    return [number for point in points for number in point]
 
 
 BOX = make_room(10, [(0, 0), (8, 0), (8, 8), (0, 8)])

@@ -6,29 +6,15 @@ import itertools
 import time
 import unittest
 
+from books_for_tests import FULL, book_of, make_book
 from hearingplaces.books import gain, level_of
 from hearingplaces.places import heard, level, ways
 from rooms_for_tests import BOX, COMB, ELL, OCTAGON, STUMP, TRIANGLE, WEDGE, Watched, make_room
 
 HUGE = 10 ** 40
-FULL = 32768
 NONE = -100000
 LARGE = make_room(4095, [(0, 0), (4095, 0), (4095, 4095), (0, 4095)])
 TWO = 2 ** 48
-
-
-def make_book(back=FULL, air=FULL):
-    """A book that tells one number of all stuffs in all bands, and one of the air."""
-    return [back] * 32 + [air] * 4
-
-
-def book_of(stuffs, band, air=FULL):
-    """A book in which these stuffs alone, in this band alone, bring something back."""
-    book = [0] * 32 + [0] * 4
-    for stuff, part in stuffs.items():
-        book[4 * stuff + band] = part
-    book[32 + band] = air
-    return book
 
 
 def one_level(s, place, most, band, room, book):

@@ -6,22 +6,10 @@ import unittest
 import reference
 from hearingplaces.books import gain, level_of
 from hearingplaces.places import level
-from random_rooms import random_point_inside, random_room
+from random_rooms import random_book, random_point_inside, random_room, stuffed
 from rooms_for_tests import BOX, ELL, TRIANGLE, WEDGE, make_room
 
 HUGE = 10 ** 40
-
-
-def stuffed(chance, room):
-    """The room with stuffs by chance."""
-    changed = list(room)
-    for k in [1, 2] + list(range(5, len(room), 3)):
-        changed[k] = chance.randrange(8)
-    return changed
-
-
-def random_book(chance):
-    return [chance.choice((0, 1, 2, 32767, 32768, chance.randrange(32769), chance.randrange(32769))) for _ in range(36)]
 
 
 class BesideTheReference(unittest.TestCase):

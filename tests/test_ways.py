@@ -5,10 +5,10 @@ import io
 import itertools
 import time
 import unittest
-from fractions import Fraction
 
 from hearingplaces.paths import paths_to, rows_of_walls, walls_of, whole_point
 from hearingplaces.places import heard, ways
+from mirrored_boxes import box_paths
 from rooms_for_tests import BOX, COMB, ELL, OCTAGON, STUMP, TRIANGLE, WEDGE, Watched, make_room
 
 HUGE = 10 ** 40
@@ -33,22 +33,8 @@ def rows(s, place, most, room):
     return [row for row, square in paths_to(place, rows_of_walls(whole_point(s), walls, most), walls)]
 
 
-def axis_crossings(start, end, size, times):
-    """When the straight way from start to the end mirrored as often as told crosses the walls at 0 and at size."""
-    mirrored = times * size + (end if times % 2 == 0 else size - end)
-    walls = range(1, times + 1) if times > 0 else range(0, times, -1)
-    return [Fraction(wall * size - start, mirrored - start) for wall in walls]
-
-
 def box_count(s, e, most, sizes):
-    """A box's paths: one for each mirrored e to which the straight way crosses no two walls at once."""
-    found = 0
-    for times in itertools.product(range(-most, most + 1), repeat=3):
-        if sum(map(abs, times)) > most:
-            continue
-        at = [t for k in range(3) for t in axis_crossings(s[k], e[k], sizes[k], times[k])]
-        found += len(set(at)) == len(at)
-    return found
+    return len(box_paths(s, e, most, sizes))
 
 
 class Boxes(unittest.TestCase):
