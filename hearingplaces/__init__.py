@@ -1,1 +1,1 @@
-"""A room's acoustics: where in a room one is heard, by how many ways and how loud, and where to speak best."""
+"""A room's acoustics: where one is heard, by how many ways and how loud, and where speakers are to stand."""

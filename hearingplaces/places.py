@@ -1,6 +1,7 @@
 """The calls: what is told of the places of a grid, and of rows of points."""
 
-from hearingplaces.books import NO_LEVEL, book_fault, gain, level_of
+from hearingplaces.books import book_fault, gain, level_of
+from hearingplaces.choices import fewest, first_missed
 from hearingplaces.paths import paths_to, rows_of_walls, stuffs_of, walls_of, whole_point
 from hearingplaces.rooms import is_clear, is_inside, lines_of, room_fault
 
@@ -9,6 +10,7 @@ MOST_TURNS = 4
 LARGEST_BAND = 3
 MOST_PLACES = 8
 MOST_EARS = 8
+MOST_EARS_TO_COVER = 16
 
 
 def is_grid_right(nx, ny):
@@ -47,6 +49,18 @@ def refusal(s, is_right, room, book):
     return None
 
 
+def clear_from(s, places, room):
+    """The numbers of the places that are clear from s, both inside."""
+    lines = lines_of(room)
+    if not is_inside(s, room[0], lines):
+        return []
+    numbers = []
+    for number, place in enumerate(places):
+        if is_inside(place, room[0], lines) and is_clear(s, place, lines):
+            numbers.append(number)
+    return numbers
+
+
 def paths_over(s, places, most, room):
     """Of each place its paths from s with at most most turns, None if it isn't inside."""
     lines = lines_of(room)
@@ -77,12 +91,7 @@ def heard(sx, sy, sz, x, y, z, dx, dy, nx, ny, room):
     refused = refusal(s, is_grid_right(nx, ny), room, None)
     if refused is not None:
         return refused
-    lines = lines_of(room)
-    answer = [0]
-    for number, place in enumerate(grid_places(x, y, z, dx, dy, nx, ny)):
-        if is_inside(place, room[0], lines) and is_clear(s, place, lines):
-            answer.append(number)
-    return answer
+    return [0] + clear_from(s, grid_places(x, y, z, dx, dy, nx, ny), room)
 
 
 def ways(sx, sy, sz, x, y, z, dx, dy, nx, ny, most, room):
@@ -96,17 +105,14 @@ def ways(sx, sy, sz, x, y, z, dx, dy, nx, ny, most, room):
 
 
 def level(sx, sy, sz, x, y, z, dx, dy, nx, ny, most, band, room, book):
-    """0 and of each of the grid's places its level in a band, NO_LEVEL if it isn't inside; or a refusal."""
+    """0 and of each of the grid's places its level in a band, -100,000 if it isn't inside; or a refusal."""
     s = (sx, sy, sz)
     is_right = is_grid_right(nx, ny) and most <= MOST_TURNS and band <= LARGEST_BAND
     refused = refusal(s, is_right, room, book)
     if refused is not None:
         return refused
-    stuffs = stuffs_of(room)
-    answer = [0]
-    for paths in paths_over(s, grid_places(x, y, z, dx, dy, nx, ny), most, room):
-        answer.append(NO_LEVEL if paths is None else level_of(energy_of(paths, band, stuffs, book)))
-    return answer
+    energies = energies_over(s, grid_places(x, y, z, dx, dy, nx, ny), most, band, room, book)
+    return [0] + [level_of(energy) for energy in energies]
 
 
 def best(most, band, room, book, places, ears):
@@ -122,3 +128,17 @@ def best(most, band, room, book, places, ears):
         if told is None or worst > told[3]:
             told = [0, number, energies.index(worst), worst]
     return told
+
+
+def cover(room, places, ears):
+    """0 and the numbers of the fewest places that cover all ears; -2 and the first ear not covered; or a refusal."""
+    is_right = are_points_right(places, 0, MOST_PLACES) and are_points_right(ears, 1, MOST_EARS_TO_COVER)
+    refused = refusal(None, is_right, room, None)
+    if refused is not None:
+        return refused
+    listeners = points_of(ears)
+    covered = [clear_from(place, listeners, room) for place in points_of(places)]
+    chosen = fewest(covered, len(listeners))
+    if chosen is None:
+        return [-2, first_missed(list(range(len(covered))), covered, len(listeners))]
+    return [0] + chosen

@@ -1,4 +1,4 @@
-"""heard, ways, level and best once more, slowly and from the words of the document, to compare the program with.
+"""The calls once more, slowly and from the words of the document, to compare the program with.
 
 Nothing here is drawn from the program, and the ways of finding out differ from the program's: lines are cut by
 fractions, a way is looked at piece by piece between its cuts; a path is followed forward from s toward e mirrored
@@ -287,3 +287,21 @@ def best(most, band, room, book, places, ears):
         found.append((-pairs[0][0], number, pairs[0][1]))
     least, number, ear = sorted(found)[0]
     return [0, number, ear, -least]
+
+
+def cover(room, places, ears):
+    """Of all sets of places that cover each ear the least, by how many they are, then by their numbers."""
+    refused = refusal(None, (), room, rows=((places, 0, 8), (ears, 1, 16)))
+    if refused is not None:
+        return refused
+    speakers, listeners = points(places), points(ears)
+    sees = {(p, e): inside(p, room) and inside(e, room) and clear(p, e, room) for p in speakers for e in listeners}
+    for k, ear in enumerate(listeners):
+        if not any(sees[place, ear] for place in speakers):
+            return [-2, k]
+    found = []
+    for bits in itertools.product((False, True), repeat=len(speakers)):
+        numbers = [k for k, bit in enumerate(bits) if bit]
+        if all(any(sees[speakers[k], ear] for k in numbers) for ear in listeners):
+            found.append((len(numbers), numbers))
+    return [0] + min(found)[1]

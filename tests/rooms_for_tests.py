@@ -43,6 +43,21 @@ def comb_corners():
 COMB = make_room(10, comb_corners())
 
 
+def slotted_corners():
+    """A box 18 wide with four slots, two wide, 20 deep and two apart, behind its right side, four above it."""
+    corners = [(0, 0), (18, 0)]
+    for k in range(4):
+        corners += [(18, 4 * k + 2), (38, 4 * k + 2), (38, 4 * k + 4), (18, 4 * k + 4)]
+    corners.append((18, 18))
+    for k in range(3, -1, -1):
+        corners += [(4 * k + 4, 18), (4 * k + 4, 38), (4 * k + 2, 38), (4 * k + 2, 18)]
+    return corners + [(0, 18)]
+
+
+# From deep in a slot only a strip of the box is seen: 4 k + 3 and not a whole 4 more or less, along x or y.
+SLOTTED = make_room(10, slotted_corners())
+
+
 class Watched(list):
     """A list that refuses every change, one that is taken back as well."""
 
